@@ -7,7 +7,7 @@ import (
 	"snowline/diffs"
 )
 
-// Proof returns reasons why it is not greater, or not less.
+// Proof returns reasons why the water of a cell on a day is not greater, or not less.
 func Proof(s api.Scene, cell, day int, most bool) ([]api.Reason, api.Errno) {
 	f, e := read(s)
 	if e != api.OK {

@@ -41,7 +41,7 @@ func Lost(s api.Scene, cells []int, from, to int) (api.Span, api.Errno) {
 	return api.Span{Lo: -opposite, Hi: greatest}, e
 }
 
-// LostProof returns how often each difference has to be used to prove it, and a field that attains it.
+// LostProof returns how often each difference has to be used to prove the greatest or the least of it, and a field that attains that.
 func LostProof(s api.Scene, cells []int, from, to int, most bool) ([]int, [][]int, api.Errno) {
 	f, e := read(s)
 	if e != api.OK {
