@@ -2,7 +2,6 @@ package office_test
 
 import (
 	"fmt"
-	"slices"
 	"testing"
 
 	"snowline/api"
@@ -232,6 +231,10 @@ func TestFull(t *testing.T) {
 	tally, e = y.Tally(0)
 	same(t, "Tally", tally.Have, []int{61, 1}, e, api.OK)
 	want(t, y, "refused 0", "0")
+	// One sector is left.
+	want(t, y, "write 0 withdraw 8", "0.61")
+	fails(t, y, "write 0 withdraw 7", api.ErrFull)
+	want(t, y, "refused 0", "0")
 }
 
 // shape returns all that a model tells of its offices.
@@ -299,7 +302,7 @@ func TestErrorsChangeNothing(t *testing.T) {
 func TestResultsAreNew(t *testing.T) {
 	y := morning(t)
 	takes(t, y, warm()...)
-	takes(t, y, "pillow 3 2 5 20 10 0", "shown 3 20 110", "site 0 1 0", "site 1 1 0", "track 0 0 1 5 0 0", "pond 5 9", "grant 7 3 1 5 20 21 500")
+	takes(t, y, "pillow 3 2 5 20 10 0", "shown 3 20 110", "course 4 2 19 1 1 100 20 100/100/220/0/0", "site 0 1 0", "site 1 1 0", "track 0 0 1 5 0 0", "pond 5 9", "grant 7 3 1 5 20 21 500")
 	do(t, y, "tell 0 5 22", "write 0 withdraw 1", "tell 0 5 22")
 	before := shape(y)
 	scales, _ := y.Scales(0)
@@ -327,15 +330,13 @@ func TestResultsAreNew(t *testing.T) {
 	}
 	second := fmt.Sprint(l[1])
 	s := l[0]
-	s.Days[0], s.Sights[0].Lo, s.Basin.Cells[0].Area, s.Basin.Pairs[0][0] = 9, 9, 9, 9
+	s.Days[0], s.Sights[0].Lo, s.Basin.Cells[0].Area, s.Basin.Pairs[0][0], s.Changes[0].Lo = 9, 9, 9, 9, 9
 	if fmt.Sprint(l[1]) != second {
 		t.Error("scenes share memory")
 	}
 	if shape(y) != before {
 		t.Error("results share memory with the model")
 	}
-	days, _ := y.Scenes(0)
-	if !slices.Equal(days[0].Days, []int{20}) {
-		t.Error(days)
-	}
+	l, _ = y.Scenes(0)
+	same(t, "Days", l[0].Days, []int{19, 20}, 0, 0)
 }

@@ -108,7 +108,7 @@ func TestBasin(t *testing.T) {
 	same(t, "Basin", b, api.Basin{Cells: []api.Cell{{No: 5, Height: 1000, Aspect: 3, Area: 10}}, Slack: 65536, Deep: 65536}, e, api.OK)
 	refuses(t, y, "pair 5 6", "pair 6 5", "pair 5 5")
 	takes(t, y, "cell 9 900 2 20 6", "pair 9 5", "cell 0 1000 4 30 5", "laws 1 2 3", "pair 0 5", "cell 7 1100 3 40 7", "pair 9 7")
-	refuses(t, y, "laws 1 2 3", "laws 4 5 6", "cell 5 1 1 1 1", "pair 5 9", "pair 5 0", "pair 0 5", "pair 7 0", "pair 9 7", "pair 8 9")
+	refuses(t, y, "laws 1 2 3", "laws 4 5 6", "cell 5 1 1 1 1", "pair 5 9", "pair 5 0", "pair 0 5", "pair 7 0", "pair 9 7", "pair 8 9", "pair 8 0", "pair 0 6")
 	takes(t, y, "pair 0 7")
 	b, e = y.Basin(0)
 	same(t, "Basin", b, api.Basin{

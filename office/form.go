@@ -53,9 +53,6 @@ func readBody(body string) (int, any, bool) {
 
 // readForm returns what a form says that is written on a day, and whether words are one.
 func readForm(words []string, day int) (any, bool) {
-	if len(words) == 0 {
-		return nil, false
-	}
 	value, x, is := lookUp(forms(day), words)
 	if !is {
 		return nil, false

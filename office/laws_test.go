@@ -109,20 +109,33 @@ func TestExactVolumes(t *testing.T) {
 				weights[1+last*len(s.Basin.Cells)+i] = c.Area
 			}
 			x, e := basin.Valley(s, cells, s.Days[last])
-			field, is, e2 := diffs.Best(net, weights)
-			flow, isProved, e3 := diffs.Flow(net, weights)
-			if e != api.OK || e2 != api.OK || e3 != api.OK || !is || !isProved {
-				t.Fatal(e, e2, e3)
+			if e != api.OK {
+				t.Fatal(e)
 			}
-			volume := 0
-			for i, w := range weights {
-				volume += w * field[i]
+			provesSum(t, net, weights, x.Hi)
+			for i := range weights {
+				weights[i] = -weights[i]
 			}
-			if volume != x.Hi || diffs.CheckFlow(net, weights, x.Hi, flow) != api.OK || diffs.CheckFlow(net, weights, x.Hi-1, flow) != api.ErrProof {
-				t.Error("the greatest volume is not proved", x, volume)
-			}
+			provesSum(t, net, weights, -x.Lo)
 		}
 	})
+}
+
+// provesSum checks that the greatest weighted sum is attained and proved, and nothing less is proved.
+func provesSum(t *testing.T, net api.Net, weights []int, most int) {
+	t.Helper()
+	x, is, e := diffs.Best(net, weights)
+	flow, isProved, e2 := diffs.Flow(net, weights)
+	if e != api.OK || e2 != api.OK || !is || !isProved {
+		t.Fatal(is, e, isProved, e2)
+	}
+	sum := 0
+	for i, w := range weights {
+		sum += w * x[i]
+	}
+	if sum != most || diffs.CheckFlow(net, weights, most, flow) != api.OK || diffs.CheckFlow(net, weights, most-1, flow) != api.ErrProof {
+		t.Error("not just this is proved", most, sum)
+	}
 }
 
 // P10.7: what comes in any of today's springs, from any allowed field, is within the volume, and its ends are attained.

@@ -163,6 +163,7 @@ func (o outlook) combinations() ([][]api.Sight, api.Errno) {
 		return nil, api.ErrLimit
 	}
 	if count == 0 {
+		// Others can have so many cases that it would take long to combine them with none.
 		return nil, api.OK
 	}
 	all := [][]api.Sight{nil}
@@ -180,10 +181,7 @@ func (o outlook) combinations() ([][]api.Sight, api.Errno) {
 
 // readings returns, for each case of a pillow, the sights that its log gives; the first one has the number no.
 func (o outlook) readings(p api.Pillow, no int) ([][]api.Sight, api.Errno) {
-	weather, e := o.weatherOf(p)
-	if e != api.OK {
-		return nil, e
-	}
+	weather := o.weatherOf(p)
 	cases, e := pillow.Cases(p, weather)
 	if e != api.OK {
 		return nil, e
@@ -203,22 +201,19 @@ func (o outlook) readings(p api.Pillow, no int) ([][]api.Sight, api.Errno) {
 	return out, api.OK
 }
 
-// weatherOf returns by how much the snow on a pillow can have changed from each entry of its log to the next one.
-func (o outlook) weatherOf(p api.Pillow) ([]api.Span, api.Errno) {
+// weatherOf returns by how much the snow on a pillow can have changed from each entry of its log to the next one. All of these days are looked at: with a climate, the changes between them are known.
+func (o outlook) weatherOf(p api.Pillow) []api.Span {
 	var out []api.Span
-	at, _ := place(o.basin.Cells, p.Cell, cellNo)
 	for i := range len(p.Log) - 1 {
-		change := api.Span{Lo: -api.MaxWater, Hi: api.MaxWater}
-		if o.hasClimate {
-			s, e := spring.Change(o.climate, o.log, o.basin.Cells[at].Height, p.Log[i].Day, p.Log[i+1].Day)
-			if e != api.OK {
-				return nil, e
+		span := api.Span{Lo: -api.MaxWater, Hi: api.MaxWater}
+		for _, c := range o.changes {
+			if c.Cell == p.Cell && c.From == p.Log[i].Day && c.To == p.Log[i+1].Day {
+				span = api.Span{Lo: c.Lo, Hi: c.Hi}
 			}
-			change = s
 		}
-		out = append(out, change)
+		out = append(out, span)
 	}
-	return out, api.OK
+	return out
 }
 
 // scene returns the scene with the sights of the sheets that count and those of pillows. It shares no memory with other ones.

@@ -58,6 +58,22 @@ func TestSheetsThatCount(t *testing.T) {
 	same(t, "days", days(t, y), []int{18, 20, 21}, 0, 0)
 }
 
+// P10.4: what the tests of the scale tell of the drift from the day of the empty tube on, as known now.
+func TestSheetsAndTests(t *testing.T) {
+	y := begun(t, "begin 1", "day 13")
+	takes(t, y, "cell 1 1000 0 10 5", "scale 1 2", "course 1 1 13 1 1 100 10 200/200/200/0/0")
+	want(t, y, "cell 0 1 13", "94 106")
+	takes(t, y, "test 1 10 0 1")
+	want(t, y, "cell 0 1 13", "94 106")
+	takes(t, y, "test 1 13 3 3")
+	want(t, y, "cell 0 1 13", "97 98")
+	// More soil than snow, and a drift that makes the core lighter than nothing.
+	takes(t, y, "course 1 1 13 1 1 100 10 200/200/104/0/100")
+	want(t, y, "cell 0 1 13", "0 2")
+	takes(t, y, "course 1 1 13 1 1 100 10 200/200/101/0/100")
+	want(t, y, "cell 0 1 13", "0 65536")
+}
+
 // P10.4: without a climate days are not bound to each other; with one, each two of them are.
 func TestChanges(t *testing.T) {
 	y := begun(t, "begin 1", "day 20")
@@ -183,7 +199,17 @@ func TestWhatGoesWrong(t *testing.T) {
 	want(t, y, "scenes 0", "16")
 	takes(t, y, "shown 2 19 5")
 	wrong(y, api.ErrLimit)
-	// One pillow with 54 cases, and with more than 64: the states change freely.
+	// Pillows of four and of six cases; one of 18, and one of 16.
+	y = begun(t, "begin 1", "day 20")
+	takes(t, y, "cell 1 1000 0 10 5", "pillow 1 1 0 0 0 0", "shown 1 18 5", "shown 1 19 5", "pillow 2 1 0 0 0 1", "shown 2 19 5", "shown 2 20 5")
+	wrong(y, api.ErrLimit)
+	y = begun(t, "begin 1", "day 20")
+	takes(t, y, "cell 1 1000 0 10 5", "pillow 2 1 0 0 0 9", "shown 2 18 5", "shown 2 19 5", "shown 2 20 5")
+	wrong(y, api.ErrLimit)
+	y = begun(t, "begin 1", "day 20")
+	takes(t, y, "cell 1 1000 0 10 5", "pillow 2 1 0 0 0 1", "shown 2 18 5", "shown 2 19 5", "shown 2 20 5")
+	want(t, y, "scenes 0", "16")
+	// One pillow with 54 cases, and with more than 64.
 	y = begun(t, "begin 1", "day 20")
 	takes(t, y, "cell 1 1000 0 10 5", "pillow 1 1 0 0 0 9", "shown 1 16 5", "shown 1 17 5", "shown 1 18 5", "shown 1 19 5")
 	wrong(y, api.ErrLimit)
@@ -200,6 +226,32 @@ func TestWhatGoesWrong(t *testing.T) {
 	fails(t, y, "cell 0 1 20", api.ErrClash)
 	fails(t, y, "tracks 0", api.ErrClash)
 	want(t, y, "clash 0", "no")
+	// Changes can be too many even if there is no case: of 8 days and 9 cells 252, of 12 days and 4 cells 264.
+	for _, x := range []struct {
+		days, cells int
+		isTooMany   bool
+	}{{8, 9, false}, {12, 3, false}, {12, 4, true}, {16, 2, false}, {16, 3, true}, {7, 12, false}, {8, 10, true}} {
+		y = begun(t, "begin 1", "day 20")
+		takes(t, y, "climate 1000 0 0 0 0 0 0 0", "pillow 0 1 0 0 0 0", "pillow 1 1 0 0 0 0", "scale 1 0")
+		takes(t, y, many(x.cells, func(i int) string { return fmt.Sprint("cell ", i, " 1000 0 1 5") })...)
+		takes(t, y, many(x.days-2, func(i int) string { return fmt.Sprintf("course %d 1 %d 1 1 100 %d 9/9/109/0/0", i, i+1, i+1) })...)
+		takes(t, y, "shown 0 19 5", "shown 0 20 6")
+		if x.isTooMany {
+			wrong(y, api.ErrLimit)
+		} else {
+			want(t, y, "scenes 0", "0")
+		}
+	}
+}
+
+// P10.4: a bound can come from a scene that is neither the first one nor the last one.
+func TestBoundsOfAllScenes(t *testing.T) {
+	y := begun(t, "begin 1", "day 20")
+	takes(t, y, "cell 1 1000 0 10 5", "climate 1000 0 50 10 -100 150 300 300", "pillow 1 1 5 20 0 1", "shown 1 18 100", "shown 1 19 104", "shown 1 20 90", "spring 1 20 150/0 150/0 150/0")
+	want(t, y, "scenes 0", "16")
+	// A fault on the day 20: 54 are left of 99, or 10 more than 129 have come. With faults on other days it had from 85 to 115.
+	want(t, y, "cell 0 1 20", "54 139")
+	want(t, y, "volume 0 5 23", "540 1350")
 }
 
 // P10.4: bounds of cells, on days that are looked at.
@@ -210,7 +262,7 @@ func TestCell(t *testing.T) {
 		span      api.Span
 		e         api.Errno
 	}{
-		{1, 20, api.Span{Lo: 100, Hi: 100}, 0}, {2, 20, api.Span{Lo: 100, Hi: 130}, 0}, {3, 20, api.Span{}, api.ErrNone}, {1, 19, api.Span{}, api.ErrNone}, {1, 21, api.Span{}, api.ErrNone}, {4095, 1048576, api.Span{}, api.ErrNone},
+		{1, 20, api.Span{Lo: 100, Hi: 100}, 0}, {2, 20, api.Span{Lo: 100, Hi: 130}, 0}, {3, 20, api.Span{}, api.ErrNone}, {1, 19, api.Span{}, api.ErrNone}, {1, 21, api.Span{}, api.ErrNone}, {0, 0, api.Span{}, api.ErrNone}, {4095, 1048576, api.Span{}, api.ErrNone},
 		{4096, 20, api.Span{}, api.ErrArg}, {-1, 20, api.Span{}, api.ErrArg}, {1, -1, api.Span{}, api.ErrArg}, {1, 1048577, api.Span{}, api.ErrArg},
 	} {
 		if s, e := y.Cell(0, x.cell, x.day); s != x.span || e != x.e {
@@ -244,7 +296,7 @@ func TestVolume(t *testing.T) {
 	for _, x := range []struct {
 		valley, date int
 		e            api.Errno
-	}{{5, 19, api.ErrArg}, {5, 24, api.ErrArg}, {6, 21, api.ErrNone}, {6, 24, api.ErrNone}, {4096, 21, api.ErrArg}, {-1, 21, api.ErrArg}, {5, -1, api.ErrArg}, {5, 1048577, api.ErrArg}} {
+	}{{5, 19, api.ErrArg}, {5, 24, api.ErrArg}, {6, 21, api.ErrNone}, {6, 24, api.ErrNone}, {0, 0, api.ErrNone}, {4095, 1048576, api.ErrNone}, {4096, 21, api.ErrArg}, {-1, 21, api.ErrArg}, {5, -1, api.ErrArg}, {5, 1048577, api.ErrArg}} {
 		if s, e := y.Volume(0, x.valley, x.date); s != (api.Span{}) || e != x.e {
 			t.Error(x, s, e)
 		}

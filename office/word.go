@@ -27,7 +27,7 @@ func lookUp[V any](table map[string]V, words []string) (V, []int, bool) {
 
 // fit returns the numbers of words that fit a pattern, and whether they do. The first word of a pattern stands for itself, each other one is the name of a number, or of several ones with / between them; DIGITS stands for a word of digits, FORM for all words of a form, and .. says that the one ahead of it can come again.
 func fit(pattern, words []string) ([]int, bool) {
-	if len(words) < len(pattern)-1 || words[0] != pattern[0] {
+	if len(words) < max(1, len(pattern)-1) || words[0] != pattern[0] {
 		return nil, false
 	}
 	last := len(pattern) - 1
